@@ -1,0 +1,1 @@
+"""Notetrail: what the files of handover notes prove."""
