@@ -211,6 +211,13 @@ class IsProof(unittest.TestCase):
             self.proves((word, (), ()), False, 0, 0, CLEAN)
             self.proves((word, (), ()), False, 0, 1, ALONE)
 
+    def test_two_coalitions_with_the_word_of_another_form(self):
+        """There are as many parties in the second one as there are coalitions to bar."""
+        evidence = of((PLAIN, PLAIN), ((), ()))
+        self.proves(("undecided", (0,), (1,)), True, 0, 1, evidence)
+        self.proves(("dishonest", (0,), (1,)), False, 0, 1, evidence)
+        self.proves(("honest", (1,), (0,)), False, 0, 1, evidence)
+
     def test_the_other_side_of_a_wrong_word(self):
         """What would be right in form, but does not bar."""
         self.proves(("honest", (1, 2), (((0, 1), THREE), ((0, 2), ONE), ((0, 3), TWO))), False, 0)
