@@ -22,7 +22,7 @@ def is_evidence(thing):
     for party, file in enumerate(files):
         if not _is_file(kinds, many, party, file):
             return False
-    return _are_finds(kinds, many, finds) and not _share_a_number(files, finds)
+    return _are_finds(kinds, many, finds) and not share_a_number(files, finds)
 
 
 def is_integer(thing, least, greatest):
@@ -123,7 +123,7 @@ def _are_finds(kinds, many, thing):
     return all([is_find(kinds, many, find) for find in thing]) and ascend([find[0] for find in thing])
 
 
-def _share_a_number(files, finds):
+def share_a_number(files, finds):
     taken = {find[0]: True for find in finds}
     return any([entry[0] in taken for file in files for entry in file])
 

@@ -9,7 +9,8 @@ from tests.made_up import many_evidences, played, subsets
 
 LINE = "line is not known"
 NUMBER = "number is wrong"
-ODD = ["00", "01", "007", "+1", "-1", "-0", "1.0", "1e2", "x", "1x", "x1", "1_0", "0x1", "1,0", "one"]
+ODD = ["00", "01", "007", "+1", "-1", "-0", "1.0", "1e2", "x", "1x", "x1", "1_0", "0x1", "1,0",
+       "one", "\u00b2", "\u0663"]
 LONG = ["9" * 20, "1" + "0" * 30, "1" * 5000, "0" * 5000]
 
 EVENTS = {

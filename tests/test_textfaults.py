@@ -16,7 +16,8 @@ ORDER = "file is out of order"
 # Lines 1 to 5: two kinds and four parties.
 HEAD = ["kinds 2", "party makes", "party", "party treats", "party"]
 # Not written as numbers are, whatever the bounds.
-ODD = ["00", "01", "007", "+1", "-1", "-0", "1.0", "1e2", "x", "1x", "x1", "1_0", "0x1", "1,0", "'1'", "one"]
+ODD = ["00", "01", "007", "+1", "-1", "-0", "1.0", "1e2", "x", "1x", "x1", "1_0", "0x1", "1,0",
+       "'1'", "one", "\u00b2", "\u0663"]
 LONG = ["9" * 20, "1" + "0" * 30, "1" * 5000, "0" * 5000]
 
 
